@@ -1,0 +1,1 @@
+"""Lastcopied: numbers handed on by copiers whose beginnings nobody knows."""
