@@ -3,16 +3,15 @@
 from lastcopied.errors import InvalidPattern
 from lastcopied.rows import check_row
 from lastcopied.values import ascending, check_many, is_integer
-from lastcopied.walks import all_starts, least_starts, pattern_of, round_steps
+from lastcopied.walks import few_starts, least_starts, pattern_of, round_steps
 
 
 def patterns(row):
     """The ascending list of all patterns that the row has."""
     check_row(row)
     periods = row[1]
-    # Many phases bring the same steps: each round is made a pattern only once.
-    rounds = {round_steps("new", periods, starts): True for starts in all_starts(periods)}
-    return ascending([pattern_of(steps) for steps in rounds])
+    # The tie does not matter to the patterns.
+    return ascending([pattern_of(round_steps("new", periods, starts)) for starts in few_starts(periods)])
 
 
 def check_pattern(row, pattern):

@@ -2,7 +2,9 @@
 
 from lastcopied.errors import InvalidPhases, InvalidRow
 from lastcopied.values import check_integer, check_many, check_time, is_fraction, is_within
-from lastcopied.walks import arrival, common_scale, least_starts, on_scale, pattern_of, round_steps
+from lastcopied.walks import (
+    arrival, common_scale, least_starts, on_scale, on_scale_all, pattern_of, round_steps,
+)
 
 FEWEST_COPIERS = 2
 MOST_COPIERS = 5
@@ -41,18 +43,12 @@ def check_phases(row, phases):
         raise InvalidPhases("phases of a row are a list of one fraction for each copier")
 
 
-def _on_scale_all(row, phases, scale):
-    """The periods of the row and the phases, all times the scale."""
-    periods = tuple([period * scale for period in row[1]])
-    return periods, [on_scale(phase, scale) for phase in phases]
-
-
 def number_at(row, phases, time):
     """The number that the reader holds at a time, behind its moment if it has one then."""
     check_phases(row, phases)
     check_time(time)
     scale = common_scale(phases + [time])
-    periods, starts = _on_scale_all(row, phases, scale)
+    periods, starts = on_scale_all(row[1], phases, scale)
     moment = (on_scale(time, scale) - starts[-1]) // periods[-1]
     return arrival(row[0], periods, starts, moment)
 
@@ -62,14 +58,14 @@ def arrivals(row, phases, first, many):
     check_phases(row, phases)
     check_integer(first)
     check_many(many)
-    periods, starts = _on_scale_all(row, phases, common_scale(phases))
+    periods, starts = on_scale_all(row[1], phases, common_scale(phases))
     return [arrival(row[0], periods, starts, number) for number in range(first, first + many)]
 
 
 def pattern(row, phases):
     """The pattern of the row for these phases."""
     check_phases(row, phases)
-    periods, starts = _on_scale_all(row, phases, common_scale(phases))
+    periods, starts = on_scale_all(row[1], phases, common_scale(phases))
     return pattern_of(round_steps(row[0], periods, starts))
 
 

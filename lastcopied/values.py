@@ -25,6 +25,12 @@ def is_fraction(value):
     return is_integer(top) and is_integer(bottom) and bottom >= 1 and gcd(top, bottom) == 1
 
 
+def fraction(top, bottom):
+    """The number top / bottom as a fraction; the bottom is from 1 on."""
+    common = gcd(top, bottom)
+    return top // common, bottom // common
+
+
 def check_time(time):
     """Raises InvalidTime unless the time is a fraction."""
     if not is_fraction(time):
@@ -44,7 +50,7 @@ def check_many(many):
 
 
 def ascending(items):
-    """The ascending list of the items, all integers or all tuples of integers, each one once."""
+    """The ascending list of the items, each one once, integers or tuples that Python compares."""
     # Not by sorted: beside a class with an order, as the document's Line, it takes no tuples (L5).
     found = []
     for item in items:

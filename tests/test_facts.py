@@ -1,7 +1,10 @@
-"""The facts F1, F2 and F4, held against plain walks over all phases of small rows."""
+"""The facts F1, F2 and F4, held against plain walks over all phases of small rows, and F3."""
 
 import unittest
+from itertools import product
+from math import gcd, lcm
 
+from lastcopied.alike import alike, can_go
 from lastcopied.patterns import least_phases, loses, patterns, repeats, totals, turned
 from lastcopied.rows import pattern, settled
 from tests.plain_walk import SMALL_ROWS, integer_starts, least_round, real_walks, walked_steps
@@ -101,3 +104,23 @@ class Facts(unittest.TestCase):
                 self.assertEqual(found, [turned_word(one) for one in patterns(row)], row)
                 self.assertEqual(sorted(found), patterns(behind), row)
                 self.assertEqual([turned(behind, one) for one in found], patterns(row), row)
+
+    def test_f3_a_middle_copier_between_two(self):
+        for source, middle, reader in product(range(1, 13), repeat=3):
+            common = gcd(source, reader)
+            whole = lcm(source, reader)
+            least = next(k for k in range(0, whole + 1, source) if k % reader == common % reader)
+            wanted = whole % middle == 0 and least % middle <= common
+            for tie in TIES:
+                row = (tie, (source, middle, reader))
+                self.assertIs(can_go(row, 1), wanted, row)
+                self.assertIs(alike(row, ("new", (source, reader))), wanted, row)
+
+    def test_f3_a_middle_copier_of_a_longer_row(self):
+        tried = 0
+        for periods in (*product((1, 2, 3, 4, 6), repeat=4), *product((1, 2, 4, 6), repeat=5)):
+            for index in range(1, len(periods) - 1):
+                if can_go(("new", periods[index - 1:index + 2]), 1):
+                    tried += 1
+                    self.assertIs(can_go(("old", periods), index), True, (periods, index))
+        self.assertGreater(tried, 1000)

@@ -6,7 +6,7 @@ import unittest
 from pathlib import Path
 
 import lastcopied
-from lastcopied import patterns, rows
+from lastcopied import alike, heard, joins, patterns, rows, times
 
 FOLDER = Path(lastcopied.__file__).parent
 FILES = sorted(FOLDER.glob("*.py"))
@@ -19,6 +19,22 @@ SIGNATURES = {
     patterns: {
         "patterns": ["row"], "least_phases": ["row", "pattern"], "totals": ["row", "many"],
         "turned": ["row", "pattern"], "loses": ["row"], "repeats": ["row"],
+    },
+    heard: {
+        "patterns_with": ["row", "stretch"], "next_steps": ["row", "stretch"],
+        "sure_steps": ["row", "stretch"], "telling": ["row", "pattern"], "doubt": ["row"],
+    },
+    alike: {
+        "alike": ["one", "other"], "within": ["one", "other"], "parting": ["one", "other"],
+        "can_go": ["row", "index"], "least_rows": ["row"],
+    },
+    times: {
+        "ages": ["row"], "waits": ["row"], "age_bounds": ["row", "phases"],
+        "wait_bounds": ["row", "phases"], "sure_age": ["row", "phases"],
+    },
+    joins: {
+        "differences": ["one", "other"], "together": ["one", "other"],
+        "apart_phases": ["one", "other"],
     },
 }
 LIBRARY = {

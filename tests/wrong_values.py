@@ -3,7 +3,8 @@
 from itertools import combinations
 
 from lastcopied.errors import (
-    CopyError, InvalidNumber, InvalidPattern, InvalidPhases, InvalidRow, InvalidText, InvalidTime,
+    CopyError, InvalidIndex, InvalidNumber, InvalidPattern, InvalidPhases, InvalidRow,
+    InvalidStretch, InvalidText, InvalidTime,
 )
 
 LONG = 10 ** 31 - 1
@@ -53,13 +54,26 @@ NO_PATTERNS = NEVER + [
     ("0", 2), (None,), ((1,),), ([1],), (-1, 3), (LONG,), (1, 2), (InvalidText(1),), (1,) * 20000,
 ]
 
+# Two of the values that are wrong elsewhere are stretches, one of them beyond the limit of use.
+NO_STRETCHES = [value for value in NEVER if value not in ([], [0] * 20000)] + [
+    True, 0, 3, (), (0,), (0, 1), [True], [0, False], [-1], [0, -LONG], [0, 1, -1], ["0"], [0, None],
+    [(0,)], [(0, 1)], [[0]], [0, [1]], [InvalidText(0)], ["0", "1"], [0] * 19999 + [-1],
+]
+
+# For a row of three copiers: no index of a middle one.
+NO_MIDDLES = NO_INTEGERS + [-1, -2, 0, 2, 3, 4, LONG, -LONG]
+
 WRONG = {
     "row": (InvalidRow, NO_ROWS),
+    "one": (InvalidRow, NO_ROWS),
+    "other": (InvalidRow, NO_ROWS),
     "phases": (InvalidPhases, NO_PHASES),
     "time": (InvalidTime, NO_TIMES),
     "first": (InvalidNumber, NO_INTEGERS),
     "many": (InvalidNumber, NO_MANY),
     "pattern": (InvalidPattern, NO_PATTERNS),
+    "stretch": (InvalidStretch, NO_STRETCHES),
+    "index": (InvalidIndex, NO_MIDDLES),
 }
 
 
