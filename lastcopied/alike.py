@@ -38,11 +38,17 @@ def check_middle(row, index):
         raise InvalidIndex("an index of a middle copier is from 1 to the number of copiers less 2")
 
 
-def can_go(row, index):
-    """Whether the middle copier with this index can be left out without a change of the patterns."""
+def left_out(row, index):
+    """The row without its middle copier with this index."""
     check_middle(row, index)
     tie, periods = row
-    return alike(row, (tie, periods[:index] + periods[index + 1:]))
+    return tie, periods[:index] + periods[index + 1:]
+
+
+def can_go(row, index):
+    """Whether the middle copier with this index can be left out without a change of the patterns."""
+    shorter = left_out(row, index)
+    return alike(row, shorter)
 
 
 def _index_lists(many):
@@ -54,7 +60,7 @@ def _index_lists(many):
     return [chosen for _, chosen in keyed]
 
 
-def _with_middles(row, chosen):
+def with_middles(row, chosen):
     """The row with these of its middle copiers alone."""
     tie, periods = row
     middles = [periods[index] for index in chosen]
@@ -73,6 +79,6 @@ def least_rows(row):
     for chosen in _index_lists(len(row[1]) - 2):
         # The lists found so far are not longer and not equal, so that a part is a proper part.
         needless = any([_is_part(some, chosen) for some in found])
-        if not needless and patterns(_with_middles(row, chosen)) == known:
+        if not needless and patterns(with_middles(row, chosen)) == known:
             found.append(chosen)
     return found

@@ -1,21 +1,32 @@
 """What a heard stretch of steps tells about the pattern of a row, and about the steps to come."""
 
-from lastcopied.errors import InvalidStretch, Unheard
+from lastcopied.errors import InvalidStep, InvalidStretch, Unheard
 from lastcopied.patterns import check_pattern, patterns
 from lastcopied.rows import check_row
 from lastcopied.values import ascending, is_integer
 
 
-def is_stretch(value):
-    """Whether any value is a list of integers from 0 on."""
-    return isinstance(value, list) and all([is_integer(step) and step >= 0 for step in value])
+def is_step(value):
+    """Whether any value is an integer from 0 on."""
+    return is_integer(value) and value >= 0
 
 
-def check_stretch(row, stretch):
+def check_step(step):
+    """Raises InvalidStep unless the step is one."""
+    if not is_step(step):
+        raise InvalidStep("a step is an integer from 0 on")
+
+
+def check_stretch(stretch):
+    """Raises InvalidStretch unless the stretch is a list of steps."""
+    if not isinstance(stretch, list) or not all([is_step(step) for step in stretch]):
+        raise InvalidStretch("a stretch is a list of integers from 0 on")
+
+
+def _check_heard(row, stretch):
     """Raises InvalidRow unless the row is one, then InvalidStretch unless the stretch is one."""
     check_row(row)
-    if not is_stretch(stretch):
-        raise InvalidStretch("a stretch is a list of integers from 0 on")
+    check_stretch(stretch)
 
 
 def _windows(pattern, size):
@@ -39,13 +50,13 @@ def _all_turns(row, stretch):
 
 def patterns_with(row, stretch):
     """The ascending list of the patterns of the row that have the stretch."""
-    check_stretch(row, stretch)
+    _check_heard(row, stretch)
     return [pattern for pattern in patterns(row) if _turns_behind(pattern, stretch)]
 
 
 def next_steps(row, stretch):
     """The ascending list of all steps that can follow the stretch."""
-    check_stretch(row, stretch)
+    _check_heard(row, stretch)
     return ascending([turn[0] for turn in _all_turns(row, stretch)])
 
 
@@ -54,7 +65,7 @@ def sure_steps(row, stretch):
 
     If there is no doubt for ever, it is one round and the empty list.
     """
-    check_stretch(row, stretch)
+    _check_heard(row, stretch)
     turns = _all_turns(row, stretch)
     if not turns:
         raise Unheard("no pattern of the row has this stretch")

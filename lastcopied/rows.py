@@ -1,6 +1,6 @@
 """Rows and their phases, what the reader holds and takes, and the pattern of its steps."""
 
-from lastcopied.errors import InvalidPhases, InvalidRow
+from lastcopied.errors import InvalidPeriod, InvalidPhases, InvalidRow
 from lastcopied.values import check_integer, check_many, check_time, is_fraction, is_within
 from lastcopied.walks import (
     arrival, common_scale, least_starts, on_scale, on_scale_all, pattern_of, round_steps,
@@ -9,6 +9,17 @@ from lastcopied.walks import (
 FEWEST_COPIERS = 2
 MOST_COPIERS = 5
 MOST_PERIOD = 60
+
+
+def is_period(value):
+    """Whether any value is an integer from 1 to 60."""
+    return is_within(value, 1, MOST_PERIOD)
+
+
+def check_period(period):
+    """Raises InvalidPeriod unless the period is one."""
+    if not is_period(period):
+        raise InvalidPeriod("a period is an integer from 1 to 60")
 
 
 def is_row(value):
@@ -20,7 +31,7 @@ def is_row(value):
         return False
     if not isinstance(periods, tuple) or not FEWEST_COPIERS <= len(periods) <= MOST_COPIERS:
         return False
-    return all([is_within(period, 1, MOST_PERIOD) for period in periods])
+    return all([is_period(period) for period in periods])
 
 
 def check_row(row):
@@ -62,11 +73,16 @@ def arrivals(row, phases, first, many):
     return [arrival(row[0], periods, starts, number) for number in range(first, first + many)]
 
 
-def pattern(row, phases):
-    """The pattern of the row for these phases."""
+def told_steps(row, phases):
+    """The tuple of the steps from step 0 on, as many as there are until they surely repeat."""
     check_phases(row, phases)
     periods, starts = on_scale_all(row[1], phases, common_scale(phases))
-    return pattern_of(round_steps(row[0], periods, starts))
+    return round_steps(row[0], periods, starts)
+
+
+def pattern(row, phases):
+    """The pattern of the row for these phases."""
+    return pattern_of(told_steps(row, phases))
 
 
 def settled(row, phases):

@@ -6,7 +6,7 @@ import unittest
 from pathlib import Path
 
 import lastcopied
-from lastcopied import alike, heard, joins, patterns, rows, times
+from lastcopied import alike, console, heard, hearings, joins, lines, patterns, rows, texts, times
 
 FOLDER = Path(lastcopied.__file__).parent
 FILES = sorted(FOLDER.glob("*.py"))
@@ -36,6 +36,34 @@ SIGNATURES = {
         "differences": ["one", "other"], "together": ["one", "other"],
         "apart_phases": ["one", "other"],
     },
+    texts: {
+        "write_row": ["row"], "read_row": ["text"], "write_steps": ["stretch"],
+        "read_steps": ["text"], "write_phases": ["row", "phases"], "read_phases": ["row", "text"],
+    },
+}
+# The parameters of the methods that the document lists for a class, without their own object.
+METHODS = {
+    lines.Line: {
+        "__init__": ["tie", "periods"], "patterns": [], "without": ["index"], "least_lines": [],
+        "walk": ["phases"], "__call__": ["phases", "time"], "__len__": [], "__bool__": [],
+        "__invert__": [],
+    },
+    hearings.Hearing: {
+        "__init__": ["row"], "hear": ["step"], "undo": [], "sure": [], "twin": [], "trying": [],
+        "tried": ["steps"],
+    },
+    hearings.CountingHearing: {"__init__": ["row"]},
+    hearings.CappedHearing: {"__init__": ["row", "most"], "hear": ["step"]},
+    hearings.CappedCountingHearing: {"__init__": ["row", "most"]},
+    console.Console: {"__init__": ["row"], "execute": ["command"]},
+}
+SIGNS = ("__getitem__", "__setitem__", "__contains__", "__add__", "__radd__", "__iadd__", "__eq__",
+         "__ne__", "__le__", "__lt__")
+PROPERTIES = {
+    lines.Line: ("row", "tie", "periods"),
+    hearings.Hearing: ("row", "heard", "left", "following"),
+    hearings.CountingHearing: ("calls",),
+    hearings.CappedHearing: ("most",),
 }
 LIBRARY = {
     "math": {"gcd", "lcm", "isqrt", "comb", "perm", "factorial"},
@@ -90,3 +118,29 @@ class Form(unittest.TestCase):
                 function = getattr(module, name)
                 self.assertEqual(function.__module__, module.__name__)
                 self.assertEqual(list(inspect.signature(function).parameters), wanted)
+
+    def test_the_methods_stand_in_their_classes(self):
+        for owner, methods in METHODS.items():
+            for name, wanted in methods.items():
+                parameters = inspect.signature(vars(owner)[name]).parameters
+                self.assertEqual(list(parameters)[1:], wanted, (owner, name))
+        for name in SIGNS:
+            self.assertIn(name, vars(lines.Line))
+        self.assertIsInstance(vars(lines.Line)["read"], classmethod)
+        self.assertEqual(list(inspect.signature(lines.Line.read).parameters), ["text"])
+        for owner, names in PROPERTIES.items():
+            for name in names:
+                self.assertIsInstance(vars(owner)[name], property)
+
+    def test_the_classes_stand_where_they_are_listed(self):
+        for module, names in ((lines, ["Line"]), (console, ["Console"]),
+                              (hearings, ["Hearing", "CountingHearing", "CappedHearing",
+                                          "CappedCountingHearing"])):
+            for name in names:
+                self.assertEqual(getattr(module, name).__module__, module.__name__)
+
+    def test_no_changes_in_place_of_local_names(self):
+        # A class has += of its own, so that += is nowhere plainly one of numbers (L5).
+        for path in FILES:
+            for node in ast.walk(ast.parse(path.read_text())):
+                self.assertNotIsInstance(node, (ast.AugAssign, ast.GeneratorExp, ast.Lambda), path)
